@@ -1,0 +1,1 @@
+"""A terminal on an aircraft's bus."""
