@@ -2,8 +2,8 @@
 
 import unittest
 
-from tests.bus import (ALL, OWN, RECEIVE, SILENCE, TRANSMIT, ask, begin, data, give, mode, output, output_after, say,
-                       sent, status, terminal_after, tick)
+from tests.bus import (ALL, HIGH_MODES, LOW_MODES, OWN, OWN_FAULT, RECEIVE, SILENCE, TRANSMIT, allow, ask, begin, data,
+                       flags, get, give, mode, output, output_after, say, seen_after, sent, status, tick, told)
 
 
 class Addresses(unittest.TestCase):
@@ -18,21 +18,21 @@ class Addresses(unittest.TestCase):
     def test_the_address_is_the_one_answered_to(self):
         for address in (0, 1, 15, 30):
             for spoken_to in (0, 1, 15, 29, 30):
-                told = ask(begin(address), say(0, spoken_to, TRANSMIT, 1, 1), output())[-1]
+                answer = ask(begin(address), say(0, spoken_to, TRANSMIT, 1, 1), output())[-1]
                 expected = sent(status(address), 0) if address == spoken_to else SILENCE
-                self.assertEqual(told, expected)
+                self.assertEqual(answer, expected)
 
 
 class Refused(unittest.TestCase):
     def test_a_refused_begin_changes_nothing(self):
-        told = ask(begin(3), give(2, [77]), say(0, 3, TRANSMIT, 2, 1), begin(31), output(),
+        rows = ask(begin(3), give(2, [77]), say(0, 3, TRANSMIT, 2, 1), begin(31), output(),
                    begin(-1), say(100, 3, TRANSMIT, 2, 1), output())
-        self.assertEqual(told[4], sent(status(3), 77))
-        self.assertEqual(told[7], sent(status(3), 77))
+        self.assertEqual(rows[4], sent(status(3), 77))
+        self.assertEqual(rows[7], sent(status(3), 77))
 
     def test_a_refused_begin_does_not_stop_the_command(self):
-        told = output_after(say(0, OWN, RECEIVE, 1, 1), begin(31), data(4, 20))
-        self.assertEqual(told, sent(status()))
+        answer = output_after(say(0, OWN, RECEIVE, 1, 1), begin(31), data(4, 20))
+        self.assertEqual(answer, sent(status()))
 
 
 class Again(unittest.TestCase):
@@ -43,33 +43,69 @@ class Again(unittest.TestCase):
         self.assertEqual(output_after(say(0, OWN, TRANSMIT, 2, 1), begin()), SILENCE)
 
     def test_the_command_that_went_on_is_gone(self):
-        terminal = terminal_after(say(0, OWN, RECEIVE, 1, 1), begin(), data(4, 20), tick(1000))
-        self.assertEqual((terminal.to_send, terminal.errors, terminal.got[1]), ([], 0, []))
+        seen = seen_after(say(0, OWN, RECEIVE, 1, 1), begin(), data(4, 20), tick(1000))
+        self.assertEqual((seen.to_send, seen.errors, seen.got[1]), ([], 0, []))
 
     def test_the_last_command_and_status_are_0(self):
         self.assertEqual(output_after(say(0, OWN, TRANSMIT, 2, 1), begin(), mode(100, 18)), sent(status(), 0))
         self.assertEqual(output_after(say(0, OWN, TRANSMIT, 2, 1), begin(), mode(100, 2)), sent(0))
 
     def test_error_and_to_all_are_0(self):
-        told = output_after(say(0, ALL, TRANSMIT, 2, 1), begin(), mode(100, 18))
-        self.assertEqual(told, sent(status(), 0))
+        answer = output_after(say(0, ALL, TRANSMIT, 2, 1), begin(), mode(100, 18))
+        self.assertEqual(answer, sent(status(), 0))
 
     def test_the_address_is_the_new_one(self):
-        told = ask(begin(3), begin(4), say(0, 3, TRANSMIT, 2, 1), output(), say(90, 4, TRANSMIT, 2, 1), output())
-        self.assertEqual(told[3], SILENCE)
-        self.assertEqual(told[5], sent(status(4), 0))
+        rows = ask(begin(3), begin(4), say(0, 3, TRANSMIT, 2, 1), output(), say(90, 4, TRANSMIT, 2, 1), output())
+        self.assertEqual(rows[3], SILENCE)
+        self.assertEqual(rows[5], sent(status(4), 0))
 
-    def test_all_that_is_kept_is_as_at_the_beginning(self):
-        terminal = terminal_after(say(0, OWN, RECEIVE, 1, 1), data(4, 20), mode(100, 4), mode(200, 6),
-                                  mode(300, 17, transmit=0), data(9, 320), tick(400), say(500, ALL, TRANSMIT, 1, 1))
-        self.assertEqual((terminal.messages, terminal.errors, terminal.other_wire_off, terminal.hushed), (1, 1, 1, 1))
-        self.assertEqual((terminal.step, terminal.got[1]), (9, [4]))
-        terminal.flags = 31
-        terminal.allowed[0][1] = 0
-        terminal.begin_anew(OWN)
-        self.assertEqual(vars(terminal), vars(terminal_after()))
-        self.assertEqual((terminal.messages, terminal.errors, terminal.other_wire_off, terminal.hushed), (0, 0, 0, 0))
-        self.assertEqual((terminal.step, terminal.flags, terminal.got), (0, 0, [[]] * 32))
+
+class AgainAfterAll(unittest.TestCase):
+    """All that the calls can change is changed, then begin comes again."""
+
+    COUNTED = (say(0, OWN, RECEIVE, 1, 1), data(4, 20), say(100, ALL, TRANSMIT, 1, 1), mode(200, 4), mode(300, 6),
+               mode(400, 17, transmit=0), data(9, 420), mode(500, 9))
+    ALLOWED = tuple(allow(what, sub, 0) for what in range(3) for sub in range(32)) + (
+        allow(LOW_MODES, 0, 0xFE00), allow(HIGH_MODES, 0, 0xFFC00000))
+    GIVEN = tuple(give(sub, [40 + sub]) for sub in range(32))
+    CHANGES = COUNTED + GIVEN + ALLOWED + (flags(31), say(600, OWN, RECEIVE, 1, 2), data(5, 620))
+
+    def looks(self):
+        """Each shows something that the changes have changed."""
+        for sub in range(1, 31):
+            yield [say(1000, OWN, TRANSMIT, sub, 1), output()]
+            for address in (OWN, ALL):
+                yield [say(1000, address, RECEIVE, sub, 1), data(3, 1020), get(sub)]
+        for code in (0, 1, 2, 3, 4, 5, 6, 7, 8, 9, 15, 16, 18, 19):
+            yield [mode(1000, code), output()]
+        for code in (17, 20, 21):
+            yield [mode(1000, code, transmit=0), data(1, 1020), output()]
+        yield [told()]
+        yield [output()]
+        yield [get(1)]
+        yield [data(6, 640), output()]
+        yield [tick(5000), told()]
+
+    def test_all_is_as_at_the_beginning(self):
+        for look in self.looks():
+            fresh = ask(begin(), *look)[-1]
+            self.assertNotEqual(ask(begin(), *self.CHANGES, *look)[-1], fresh, look)
+            self.assertEqual(ask(begin(), *self.CHANGES, begin(), *look)[-1], fresh, look)
+
+    def test_a_refused_begin_leaves_all_as_it_is(self):
+        for look in self.looks():
+            changed = ask(begin(), *self.CHANGES, *look)[-1]
+            for address in (-1, 31):
+                self.assertEqual(ask(begin(), *self.CHANGES, begin(address), *look)[-1], changed, look)
+
+    def test_the_hushed_fault_is_not_hushed_any_more(self):
+        answer = output_after(mode(0, 6), begin(), flags(OWN_FAULT), mode(100, 1))
+        self.assertEqual(answer, sent(status(fault=1)))
+
+    def test_error_and_to_all_are_0(self):
+        seen = seen_after(*self.CHANGES, begin())
+        self.assertEqual((seen.error, seen.to_all, seen.hushed), (0, 0, 0))
+        self.assertEqual(seen, seen_after())
 
 
 if __name__ == "__main__":

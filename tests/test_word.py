@@ -3,7 +3,7 @@
 import unittest
 
 from tests.bus import (ALL, OTHER, OWN, RECEIVE, SILENCE, TRANSMIT, ask, begin, command, data, data_row, mode, output,
-                       output_after, say, sent, status, terminal_after, tick, word)
+                       output_after, say, sent, status, seen_after, tick, word)
 
 TRANSMIT_ONE = command(OWN, TRANSMIT, 1, 1)
 
@@ -24,16 +24,16 @@ class Answers(unittest.TestCase):
         self.assertEqual(told, sent(status()))
 
     def test_a_refused_word_does_not_see_the_silence(self):
-        terminal = terminal_after(say(0, OWN, RECEIVE, 1, 1), word(2, 3, 5000))
-        self.assertEqual((terminal.error, terminal.errors), (0, 0))
+        seen = seen_after(say(0, OWN, RECEIVE, 1, 1), word(2, 3, 5000))
+        self.assertEqual((seen.error, seen.errors), (0, 0))
 
     def test_tick_answers_0(self):
         self.assertEqual(ask(begin(), tick(0), tick(4294967295), say(7, OWN, RECEIVE, 1, 1), tick(8), tick(800)),
                          [[0]] * 6)
 
     def test_tick_does_nothing_where_nothing_is_awaited(self):
-        terminal = terminal_after(say(0, OWN, TRANSMIT, 1, 1), tick(5000))
-        self.assertEqual((terminal.error, terminal.errors), (0, 0))
+        seen = seen_after(say(0, OWN, TRANSMIT, 1, 1), tick(5000))
+        self.assertEqual((seen.error, seen.errors), (0, 0))
 
 
 class Beginning(unittest.TestCase):
@@ -46,31 +46,31 @@ class Beginning(unittest.TestCase):
         self.assertEqual(output_after(word(1, TRANSMIT_ONE, 0)), SILENCE)
 
     def test_what_begins_no_command_is_not_looked_at(self):
-        terminal = terminal_after(word(1, TRANSMIT_ONE, 0), word(0, TRANSMIT_ONE, 20, good=0),
+        seen = seen_after(word(1, TRANSMIT_ONE, 0), word(0, TRANSMIT_ONE, 20, good=0),
                                   say(40, OTHER, RECEIVE, 1, 1), data(3, 60), data(3, 80, good=0), tick(5000))
-        self.assertEqual(vars(terminal), vars(terminal_after()))
+        self.assertEqual(seen, seen_after())
 
     def test_a_command_in_place_of_data_is_no_error(self):
         for now in (0, 1, 19, 20, 21, 23):
             calls = (say(0, OWN, RECEIVE, 1, 1), say(now, OWN, TRANSMIT, 1, 1))
             self.assertEqual(output_after(*calls), sent(status(), 0))
-            terminal = terminal_after(*calls, tick(5000))
-            self.assertEqual((terminal.errors, terminal.messages), (0, 0))
+            seen = seen_after(*calls, tick(5000))
+            self.assertEqual((seen.errors, seen.messages), (0, 0))
 
     def test_a_command_to_all_in_place_of_data_is_no_error(self):
-        terminal = terminal_after(say(0, OWN, RECEIVE, 1, 1), say(20, ALL, RECEIVE, 2, 1), data(8, 40))
-        self.assertEqual((terminal.errors, terminal.messages, terminal.got[1], terminal.got[2]), (0, 1, [], [8]))
+        seen = seen_after(say(0, OWN, RECEIVE, 1, 1), say(20, ALL, RECEIVE, 2, 1), data(8, 40))
+        self.assertEqual((seen.errors, seen.messages, seen.got[1], seen.got[2]), (0, 1, [], [8]))
 
     def test_what_has_been_got_is_lost(self):
-        terminal = terminal_after(say(0, OWN, RECEIVE, 1, 2), data(1, 20), say(40, OWN, RECEIVE, 1, 2),
+        seen = seen_after(say(0, OWN, RECEIVE, 1, 2), data(1, 20), say(40, OWN, RECEIVE, 1, 2),
                                   *data_row([2, 3], 40))
-        self.assertEqual((terminal.got[1], terminal.messages, terminal.errors), ([2, 3], 1, 0))
+        self.assertEqual((seen.got[1], seen.messages, seen.errors), ([2, 3], 1, 0))
 
     def test_a_command_in_place_of_the_senders_status_is_no_error(self):
         for now in (21, 40, 77):
             calls = (say(0, OWN, RECEIVE, 1, 1), say(20, OTHER, TRANSMIT, 1, 1), say(now, OWN, TRANSMIT, 1, 1))
             self.assertEqual(output_after(*calls), sent(status(), 0))
-            self.assertEqual(terminal_after(*calls).errors, 0)
+            self.assertEqual(seen_after(*calls).errors, 0)
 
     def test_error_is_0_by_the_next_command(self):
         wrong = say(0, OWN, TRANSMIT, 0, 31)
@@ -113,8 +113,8 @@ class LastCommand(unittest.TestCase):
                          sent(status(), command(OWN, 1, 0, 1)))
 
     def test_it_is_not_the_senders_command(self):
-        self.assertEqual(self.after(say(0, OWN, RECEIVE, 1, 1), say(20, OTHER, TRANSMIT, 1, 1), word(0, OTHER << 11, 50),
-                                    data(4, 70)),
+        self.assertEqual(self.after(say(0, OWN, RECEIVE, 1, 1), say(20, OTHER, TRANSMIT, 1, 1),
+                                    word(0, OTHER << 11, 50), data(4, 70)),
                          sent(status(), command(OWN, RECEIVE, 1, 1)))
 
     def test_it_is_not_mode_code_2_or_18_to_this_terminal(self):
